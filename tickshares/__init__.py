@@ -1,0 +1,1 @@
+"""Tickshares: never a tick behind on many hands."""

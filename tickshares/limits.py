@@ -1,0 +1,10 @@
+"""The limits of the document."""
+
+MOST_WORKS = 6
+MOST_HANDS = 6
+MOST_PERIOD = 16
+MOST_ROUND = 720
+MOST_COUNTS = 60
+MOST_LATES = 200
+MOST_LOG = 200
+MOST_RUN = 2000
