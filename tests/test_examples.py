@@ -15,6 +15,30 @@ EXAMPLES = r'''
 >>> from tickshares.turns import begin, border, group_border, overlaps, turns_up_to
 >>> [begin(three, "cat", 3), border(three, "cat", 3), overlaps(three, "cat", 3), group_border(three, "cat", 3), overlaps(three, "ann", 2), group_border(three, "ann", 1), border(three, "ann", 10 ** 30), turns_up_to(three, "ann", 4)]
 [2, 4, True, 6, False, 3, 1500000000000000000000000000000, (2, 3)]
+>>> from tickshares.standings import alive, choices, standings
+>>> even = Lot("hands 1\nwork a 1/2\nwork b 1/2")
+>>> [standings(even, 1), alive(even, 1), choices(even, 0, (0, 0)), alive(even, 10 ** 20), choices(three, 0, (0, 0, 0))]
+[((0, 0), (0, 1), (1, 0), (1, 1)), ((0, 1), (1, 0), (1, 1)), ((0,), (1,)), ((50000000000000000000, 50000000000000000000),), ((0, 1), (0, 2), (1, 2))]
+
+>>> from tickshares.tables import calm_table, count_tables, fewest_starts, is_table, nth_table, rank_of, table
+>>> [count_tables(even), nth_table(even, 1), rank_of(even, ((0,), (1,))), count_tables(even.with_hands(2)), fewest_starts(even), table(three.with_hands(1))]
+[2, ((1,), (0,)), 0, 4, 2, None]
+>>> single = Lot("hands 1\nwork a 2/3")
+>>> [[nth_table(single, k) for k in range(count_tables(single))], fewest_starts(single), is_table(three, ((0, 2), (1, 2), (0, 2), (0, 1), (0, 2), (1, 2)))]
+[[((), (0,), (0,)), ((0,), (), (0,)), ((0,), (0,), ())], 1, True]
+
+>>> from tickshares.rules import missed, order_by, table_by
+>>> [order_by(three, "keen", 0, (0, 0, 0)), order_by(three, "nearest", 0, (0, 0, 0)), order_by(three, "behind", 2, (1, 1, 2)), order_by(three, "keen", 1, (1, 0, 1))]
+[(2, 0, 1), (0, 1, 2), (0, 1, 2), (1, 2, 0)]
+>>> [table_by(three, "keen"), table_by(three, "nearest"), missed(three, "behind"), missed(Lot("hands 1\nwork ann 2/3\nwork bob 1/2"), "nearest")]
+[((0, 2), (1, 2), (0, 2), (0, 1), (0, 2), (1, 2)), ((0, 1), (0, 2), (1, 2), (0, 2), (0, 2), (1, 2)), None, (6, 'bob', 3)]
+
+>>> from tickshares.lates import run, worst
+>>> [run(even, "nearest", (("a", 1, 1),), 4), run(even, "nearest", (("a", 1, 1), ("b", 2, 2)), 5), worst(even, "nearest")]
+[(((1,), (0,), (1,), (0,)), None), (((1,), (0,), (), (0,), (1,)), None), None]
+>>> crowd = Lot("hands 1\nwork a 1/2\nwork b 2/3")
+>>> [run(crowd, "nearest", (), 9), worst(crowd, "nearest")[1][0]]
+[(((0,), (1,), (1,), (0,), (1,), (0,)), (6, 'b', 4)), 6]
 '''
 
 
@@ -29,7 +53,7 @@ class ExamplesTest(unittest.TestCase):
         self.assertEqual(runner.tries, many)
 
     def test_the_document(self):
-        self.hold(EXAMPLES, 5)
+        self.hold(EXAMPLES, 19)
 
     def test_the_readme(self):
-        self.hold(README.read_text(), 9)
+        self.hold(README.read_text(), 20)

@@ -17,6 +17,29 @@ FUNCTIONS = {
         "group_border": ("lot", "name", "turn"),
         "turns_up_to": ("lot", "name", "moment"),
     },
+    "standings": {
+        "standings": ("lot", "moment"),
+        "alive": ("lot", "moment"),
+        "choices": ("lot", "moment", "standing"),
+    },
+    "tables": {
+        "is_table": ("lot", "value"),
+        "table": ("lot",),
+        "count_tables": ("lot",),
+        "nth_table": ("lot", "number"),
+        "rank_of": ("lot", "value"),
+        "fewest_starts": ("lot",),
+        "calm_table": ("lot",),
+    },
+    "rules": {
+        "order_by": ("lot", "rule", "moment", "standing"),
+        "table_by": ("lot", "rule"),
+        "missed": ("lot", "rule"),
+    },
+    "lates": {
+        "run": ("lot", "rule", "lates", "ticks"),
+        "worst": ("lot", "rule"),
+    },
 }
 
 METHODS = {

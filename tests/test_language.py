@@ -50,6 +50,11 @@ BARRED_WORDS = set(
     " TypedDict TYPE_CHECKING abstractmethod dataclass overload contextmanager Meta metaclass _wall _WallAttr".split()
 )
 
+BARRED_ATTRIBUTES = set(
+    "items keys values pop update append clear extend insert remove reverse setdefault sort args encode decode hex fromhex"
+    " format format_map mro".split()
+)
+
 BARRED_NODES = (
     ast.Global, ast.AsyncFunctionDef, ast.AsyncFor, ast.AsyncWith, ast.Await, ast.Div, ast.MatMult, ast.MatchClass,
     ast.MatchMapping, ast.TryStar, ast.Import,
@@ -164,6 +169,18 @@ def name_faults(node):
     return []
 
 
+def attribute_faults(tree, properties):
+    """What is wrong with the names of attributes that are assigned (L5 Properties, L26)."""
+    stored = [node for node in ast.walk(tree) if isinstance(node, ast.Attribute) and isinstance(node.ctx, ast.Store)]
+    return [f"line {node.lineno}: {node.attr}" for node in stored if node.attr in BARRED_ATTRIBUTES | properties]
+
+
+def known_properties():
+    """The names of the properties of the package; none of them has a setter."""
+    nodes = [node for path in files() for node in ast.walk(ast.parse(path.read_text())) if isinstance(node, ast.FunctionDef)]
+    return {node.name for node in nodes if "property" in [ast.unparse(mark) for mark in node.decorator_list]}
+
+
 def imported(path):
     """The files of the package from which a file imports."""
     nodes = [node for node in ast.walk(ast.parse(path.read_text())) if isinstance(node, ast.ImportFrom)]
@@ -178,12 +195,13 @@ class LanguageTest(unittest.TestCase):
             self.assertNotIn(path.stem, BARRED_NAMES | BARRED_WORDS | PYTHONS_OWN)
 
     def test_every_file(self):
-        own = known_names()
+        own, properties = known_names(), known_properties()
         for path in files():
             with self.subTest(path=path.name):
                 text = path.read_text()
                 tree = ast.parse(text)
-                self.assertEqual(text_faults(text) + module_faults(tree) + node_faults(tree, own), [])
+                faults = text_faults(text) + module_faults(tree) + node_faults(tree, own)
+                self.assertEqual(faults + attribute_faults(tree, properties), [])
 
     def test_no_two_files_import_from_each_other(self):
         told = {path.stem: imported(path) for path in files()}
@@ -191,6 +209,12 @@ class LanguageTest(unittest.TestCase):
             free = [stem for stem in told if not set(told[stem]) & set(told)]
             self.assertNotEqual(free, [], sorted(told))
             told = {stem: told[stem] for stem in told if stem not in free}
+
+    def test_faults_of_attributes_are_seen(self):
+        self.assertLessEqual({"text", "hands", "names", "shares", "total", "span"}, known_properties())
+        for text in ("self.keys = 1", "box.span = 2", "a, box.sort = 1, 2", "box.hands += 1"):
+            self.assertNotEqual(attribute_faults(ast.parse(text), known_properties()), [], text)
+        self.assertEqual(attribute_faults(ast.parse("self.sizes = box.span"), known_properties()), [])
 
     def test_faults_are_seen(self):
         for text in ("a = 1.5", "def f():\n    return 1 / 2", "import sys", "from os import path", "from . import lots",

@@ -3,7 +3,7 @@
 from math import gcd, lcm
 
 from tickshares.errors import Alone, InvalidName, InvalidShare, InvalidText, NotALot, TooMany, UnknownName
-from tickshares.limits import MOST_HANDS, MOST_PERIOD, MOST_WORKS
+from tickshares.limits import MOST_HANDS, MOST_PERIOD, MOST_ROUND, MOST_WORKS
 from tickshares.values import check_number, is_name, is_share
 
 
@@ -110,6 +110,12 @@ def check_name(lot, name):
     # What is no string is not held against the names: it might say that it equals them.
     if not isinstance(name, str) or name not in lot.names:
         raise UnknownName(name)
+
+
+def check_round(lot):
+    """Raises TooMany for a lot whose round is too long for what counts it tick by tick."""
+    if lot.span > MOST_ROUND:
+        raise TooMany(MOST_ROUND)
 
 
 def share_of(lot, name):

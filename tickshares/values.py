@@ -12,8 +12,13 @@ FARTHEST = 10 ** 30
 
 def is_number(value, low, high):
     """Whether the value is an integer from low to high."""
+    return is_number_from(value, low) and value <= high
+
+
+def is_number_from(value, low):
+    """Whether the value is an integer from low on."""
     # True and False are of the class int, but they are no integers here.
-    return isinstance(value, int) and not isinstance(value, bool) and low <= value <= high
+    return isinstance(value, int) and not isinstance(value, bool) and low <= value
 
 
 def is_name(value):
