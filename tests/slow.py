@@ -233,3 +233,39 @@ def tick_by_words(lot, rule, works, moment):
     return tuple([
         (number + 1, late, False) if at in crew else (number, late, begun) for at, (number, late, begun) in enumerate(works)
     ])
+
+
+def crews_up_to(many, hands):
+    """All ascending tuples of indexes of so many works, and of no more works than hands."""
+    return [crew for size in range(min(many, hands) + 1) for crew in combinations(range(many), size)]
+
+
+def layers_by_words(lot, counts):
+    """For each moment the set of the standings that come of any way to give the hands, up to the first one without any."""
+    layers = [{(0,) * len(lot.shares)}]
+    for moment, hands in enumerate(counts, 1):
+        crews = crews_up_to(len(lot.shares), hands)
+        layers.append({had for before in layers[-1] for had in [with_crew(before, crew) for crew in crews]
+                       if all_kept(lot, moment, had)})
+        if not layers[-1]:
+            break
+    return layers
+
+
+def longest_by_words(lot, counts):
+    """The greatest number of first counts for which not all ways to give the hands lose a work."""
+    return len([layer for layer in layers_by_words(lot, counts) if layer]) - 1
+
+
+def is_plan_by_words(lot, counts, value):
+    """Whether the value is a plan for these counts."""
+    if type(value) is not tuple or len(value) != len(counts):
+        return False
+    had = (0,) * len(lot.shares)
+    for moment, crew in enumerate(value):
+        if type(crew) is not tuple or crew not in crews_up_to(len(had), counts[moment]):
+            return False
+        had = with_crew(had, crew)
+        if not all_kept(lot, moment + 1, had):
+            return False
+    return True

@@ -39,13 +39,51 @@ EXAMPLES = r'''
 >>> crowd = Lot("hands 1\nwork a 1/2\nwork b 2/3")
 >>> [run(crowd, "nearest", (), 9), worst(crowd, "nearest")[1][0]]
 [(((0,), (1,), (1,), (0,), (1,), (0,)), (6, 'b', 4)), 6]
+
+>>> from tickshares.plans import least_more, longest, plan
+>>> [plan(even, (0, 2)), plan(even, (0, 1)), longest(even, (0, 1)), least_more(even, (0, 1)), plan(single, (1, 0, 1))]
+[((), (0, 1)), None, 1, 1, ((0,), (), (0,))]
+
+>>> from tickshares.seen import bounds, shares_to, simplest
+>>> [bounds((1, 0, 1)), simplest((1, 0, 1)), shares_to((1, 0, 1), 4), bounds((0, 0, 1, 1, 1)), bounds((0, 0, 1, 1, 1, 1)), bounds((1,)), simplest((1, 1, 1))]
+[((1, 3), (1, 1)), (1, 2), ((1, 2), (2, 3), (3, 4)), ((2, 5), (1, 2)), None, ((0, 1), (2, 1)), (1, 1)]
+
+>>> from tickshares.forms import fitting
+>>> [fitting((((1, 1), (1, 3)),) * 3, 2), fitting((((1, 1), (1, 3)), ((0, 1), (1, 1))), 1), fitting((((1, 0), (0, 4)),), 1)]
+[((0, 3),), ((1, None),), ((1, 4),)]
+
+>>> from tickshares.yards import Yard
+>>> yard = Yard(even)
+>>> [yard.tick(("b",)), yard.lets(("b",)), yard.lets(("a",)), yard.standing, yard.tick(("a",)), yard.moment, yard.undo(), yard.changes]
+[None, False, True, (0, 1), None, 2, None, 1]
+>>> yard.tick(())
+raises Dead(given=())
 '''
+
+
+def shown(action):
+    """Shows what the call returns, or what it raises in the way of the document."""
+    try:
+        told = action()
+    except Exception as error:
+        attributes = ", ".join([f"{name}={value!r}" for name, value in vars(error).items()])
+        print(f"raises {type(error).__name__}({attributes})")
+    else:
+        print(repr(told))
+
+
+def with_errors_shown(example):
+    """The example, called by `shown` if the document shows what it raises."""
+    if example.want.startswith("raises "):
+        return doctest.Example(f"shown(lambda: {example.source.strip()})", example.want)
+    return example
 
 
 class ExamplesTest(unittest.TestCase):
     def hold(self, text, many):
         """The text has so many examples, and each of them shows what it is told to show."""
-        examples = doctest.DocTestParser().get_doctest(text, {}, "examples", None, 0)
+        examples = doctest.DocTestParser().get_doctest(text, {"shown": shown}, "examples", None, 0)
+        examples.examples = [with_errors_shown(example) for example in examples.examples]
         told = []
         runner = doctest.DocTestRunner(verbose=False)
         runner.run(examples, out=told.append)
@@ -53,7 +91,7 @@ class ExamplesTest(unittest.TestCase):
         self.assertEqual(runner.tries, many)
 
     def test_the_document(self):
-        self.hold(EXAMPLES, 19)
+        self.hold(EXAMPLES, 29)
 
     def test_the_readme(self):
-        self.hold(README.read_text(), 20)
+        self.hold(README.read_text(), 32)

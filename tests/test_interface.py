@@ -40,6 +40,17 @@ FUNCTIONS = {
         "run": ("lot", "rule", "lates", "ticks"),
         "worst": ("lot", "rule"),
     },
+    "plans": {
+        "plan": ("lot", "counts"),
+        "longest": ("lot", "counts"),
+        "least_more": ("lot", "counts"),
+    },
+    "seen": {
+        "bounds": ("log",),
+        "simplest": ("log",),
+        "shares_to": ("log", "number"),
+    },
+    "forms": {"fitting": ("forms", "number")},
 }
 
 METHODS = {
@@ -54,9 +65,22 @@ METHODS = {
             "__repr__": (),
         },
     },
+    "yards": {
+        "Yard": {
+            "__init__": ("lot",),
+            "tick": ("names",),
+            "undo": (),
+            "lets": ("names",),
+            "trial": (),
+            "tried": ("action",),
+        },
+    },
 }
 
-PROPERTIES = {"lots": {"Lot": ("text", "hands", "names", "shares", "total", "span")}}
+PROPERTIES = {
+    "lots": {"Lot": ("text", "hands", "names", "shares", "total", "span")},
+    "yards": {"Yard": ("moment", "standing", "changes")},
+}
 
 
 def defined(rows, kind):

@@ -181,6 +181,56 @@ def known_properties():
     return {node.name for node in nodes if "property" in [ast.unparse(mark) for mark in node.decorator_list]}
 
 
+def known_methods():
+    """The names of the methods of the package that are no properties, and of its functions."""
+    nodes = [node for path in files() for node in ast.walk(ast.parse(path.read_text())) if isinstance(node, ast.FunctionDef)]
+    return {node.name for node in nodes if "property" not in [ast.unparse(mark) for mark in node.decorator_list]}
+
+
+def own_errors():
+    """The names of the classes of errors of the package."""
+    rows = ast.parse((PACKAGE / "errors.py").read_text()).body
+    return {row.name for row in rows if isinstance(row, ast.ClassDef)}
+
+
+def handler_faults(tree, errors):
+    """What is caught that must not be, and what is raised that is not made on the spot (L6, L19)."""
+    faults = []
+    for node in ast.walk(tree):
+        where = f"line {getattr(node, 'lineno', 0)}"
+        if isinstance(node, ast.ExceptHandler):
+            caught = node.type.elts if isinstance(node.type, ast.Tuple) else [node.type]
+            names = {name.id for name in caught if isinstance(name, ast.Name)}
+            if len(names) < len(caught) or not names or names - errors - {"KeyError", "ZeroDivisionError"}:
+                faults.append(f"{where}: caught")
+        elif isinstance(node, ast.Raise) and node.exc is not None:
+            made = node.exc.func if isinstance(node.exc, ast.Call) else None
+            if not isinstance(made, ast.Name) or made.id not in errors | {"TypeError"}:
+                faults.append(f"{where}: raised")
+    return faults
+
+
+def exit_faults(tree):
+    """What stands in an `__exit__` and must not: anything but `if kind is (not) None` and plain assignments (L6 With)."""
+    faults = []
+    for node in ast.walk(tree):
+        if isinstance(node, ast.FunctionDef) and node.name == "__exit__":
+            if [parameter.arg for parameter in node.args.args] != ["self", "kind", "value", "trace"]:
+                faults.append(f"line {node.lineno}: parameters")
+            faults += [f"line {row.lineno}: in __exit__" for row in node.body if not is_exit_row(row)]
+    return faults
+
+
+def is_exit_row(row):
+    """Whether the row may stand in an `__exit__`."""
+    if isinstance(row, ast.If):
+        return ast.unparse(row.test) in ("kind is None", "kind is not None") and all(map(is_exit_row, row.body + row.orelse))
+    if isinstance(row, ast.Assign):
+        return all([isinstance(part, (ast.Attribute, ast.Name, ast.Load, ast.Store)) for side in (*row.targets, row.value)
+                    for part in ast.walk(side)])
+    return isinstance(row, ast.Pass)
+
+
 def imported(path):
     """The files of the package from which a file imports."""
     nodes = [node for node in ast.walk(ast.parse(path.read_text())) if isinstance(node, ast.ImportFrom)]
@@ -201,7 +251,11 @@ class LanguageTest(unittest.TestCase):
                 text = path.read_text()
                 tree = ast.parse(text)
                 faults = text_faults(text) + module_faults(tree) + node_faults(tree, own)
-                self.assertEqual(faults + attribute_faults(tree, properties), [])
+                faults += attribute_faults(tree, properties) + handler_faults(tree, own_errors()) + exit_faults(tree)
+                self.assertEqual(faults, [])
+
+    def test_properties_have_names_of_their_own(self):
+        self.assertEqual(known_properties() & (known_methods() | METHODS), set())
 
     def test_no_two_files_import_from_each_other(self):
         told = {path.stem: imported(path) for path in files()}
@@ -215,6 +269,21 @@ class LanguageTest(unittest.TestCase):
         for text in ("self.keys = 1", "box.span = 2", "a, box.sort = 1, 2", "box.hands += 1"):
             self.assertNotEqual(attribute_faults(ast.parse(text), known_properties()), [], text)
         self.assertEqual(attribute_faults(ast.parse("self.sizes = box.span"), known_properties()), [])
+
+    def test_faults_of_handlers_are_seen(self):
+        for text in ("except ValueError:", "except:", "except (KeyError, Exception):", "except Odd:"):
+            self.assertNotEqual(handler_faults(ast.parse(f"try:\n    pass\n{text}\n    pass"), own_errors()), [], text)
+        for text in ("raise error", "raise ValueError(1)", "raise self.wrong()", "raise Dead"):
+            self.assertNotEqual(handler_faults(ast.parse(text), own_errors()), [], text)
+        text = "try:\n    pass\nexcept (Dead, KeyError):\n    raise\nraise Alone()"
+        self.assertEqual(handler_faults(ast.parse(text), own_errors()), [])
+
+    def test_faults_of_exits_are_seen(self):
+        head = "def __exit__(self, kind, value, trace):\n    "
+        for text in (head + "self.undo()", head + "self.a = self.b[0]", head + "if value is None:\n        pass",
+                     head + "return True", head + "self.a += 1", "def __exit__(self, a, b, c):\n    pass"):
+            self.assertNotEqual(exit_faults(ast.parse(text)), [], text)
+        self.assertEqual(exit_faults(ast.parse(head + "if kind is not None:\n        self.a.b = self.c.d")), [])
 
     def test_faults_are_seen(self):
         for text in ("a = 1.5", "def f():\n    return 1 / 2", "import sys", "from os import path", "from . import lots",

@@ -3,11 +3,15 @@
 import unittest
 from time import perf_counter
 
-from tests.slow import lot_of, play_by_words, starts_of, with_whole
+from tests.slow import is_plan_by_words, lot_of, play_by_words, starts_of, with_whole
+from tickshares.forms import fitting
 from tickshares.lates import run, worst
+from tickshares.plans import least_more, longest, plan
 from tickshares.rules import RULES, missed, order_by, table_by
+from tickshares.seen import bounds, shares_to, simplest
 from tickshares.standings import alive, choices, standings
 from tickshares.tables import calm_table, count_tables, fewest_starts, is_table, nth_table, rank_of, table
+from tickshares.yards import Yard
 
 # Seconds for one call. They take less than two here; slow machines are to have time enough.
 PATIENCE = 30
@@ -73,3 +77,34 @@ class TimeTest(unittest.TestCase):
                     told = self.timed(worst, lot, rule)
                     if told is not None:
                         self.assertEqual(run(lot, rule, told[0], told[1][0])[1], told[1])
+
+    def test_plans(self):
+        for lot in (*GREATEST[:2], *OTHERS, lot_of(1, *[(1, 2)] * 6), lot_of(1, *[(1, 16)] * 6)):
+            for counts in ((0,) * 60, (6,) * 60, (3, 4, 2) * 20, (2, 3) * 30, (*(3,) * 59, 0)):
+                told = self.timed(plan, lot, counts)
+                self.assertIs(self.timed(longest, lot, counts) == 60, told is not None)
+                self.assertIs(self.timed(least_more, lot, counts) == 0, told is not None)
+                if told is not None:
+                    self.assertTrue(is_plan_by_words(lot, counts, told))
+
+    def test_seen(self):
+        for log in ((0,) * 200, (1,) * 200, (1, 0) * 100, tuple([(at + 1) * 157 // 199 - at * 157 // 199 for at in range(200)])):
+            low, high = self.timed(bounds, log)
+            top, bottom = self.timed(simplest, log)
+            self.assertTrue(low[0] * bottom < top * low[1] and top * high[1] < high[0] * bottom)
+            self.assertIs((top, bottom) in self.timed(shares_to, log, 60), bottom <= 60)
+
+    def test_forms(self):
+        most = 10 ** 9
+        for forms in ((((most, most), (most, most)),) * 4, (((most - 1, 1), (most, most)),) * 4,
+                      (((most - 7, 3), (most, 5)), ((1, most), (most, most)), ((most, 0), (3, most)), ((0, 1), (most, 1)))):
+            for number in range(1, 7):
+                self.timed(fitting, forms, number)
+
+    def test_yards(self):
+        for lot in (GREATEST[3], GREATEST[5], *OTHERS):
+            yard = self.timed(Yard, lot)
+            for crew in [choices(lot, 0, (0,) * 6)[-1]] * 2:
+                names = tuple([lot.names[at] for at in crew])
+                if self.timed(yard.lets, names):
+                    self.timed(yard.tick, names)

@@ -11,6 +11,13 @@ def members_of(crew):
     return tuple([at for at in range(crew.bit_length()) if crew >> at & 1])
 
 
+def ticks_of(way):
+    """For a list of crews, one for each tick, the tuple of the tuples of their members; None for None."""
+    if way is None:
+        return None
+    return tuple([members_of(crew) for crew in way])
+
+
 def sizes_of_crews(many):
     """For each crew of so many works how many are in it."""
     sizes = [0]

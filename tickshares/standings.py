@@ -4,9 +4,9 @@ from tickshares.crews import crew_of, members_of
 from tickshares.errors import InvalidStanding
 from tickshares.lots import check_lot, check_round
 from tickshares.picks import all_picks
-from tickshares.rounds import Round
 from tickshares.turns import turns_of
 from tickshares.values import check_moment, is_number
+from tickshares.walks import round_of
 
 
 def standings(lot, moment):
@@ -20,7 +20,7 @@ def standings(lot, moment):
 def alive(lot, moment):
     """The standings at the moment that are alive, ascending."""
     told = standings(lot, moment)
-    walk = Round(lot)
+    walk = round_of(lot)
     return tuple([standing for standing in told if walk.is_alive(moment % lot.span, ahead_in(lot, moment, standing))])
 
 
@@ -30,7 +30,7 @@ def choices(lot, moment, standing):
     check_moment(moment)
     check_standing(lot, moment, standing)
     check_round(lot)
-    crews = Round(lot).choices(moment % lot.span, ahead_in(lot, moment, standing))
+    crews = round_of(lot).choices(moment % lot.span, ahead_in(lot, moment, standing))
     return tuple(sorted([members_of(crew) for crew in crews]))
 
 

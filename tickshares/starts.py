@@ -37,7 +37,7 @@ def _moments_of(walk):
     """For each moment the pair of its floor and of what the ways to it cost: by who is ahead, then by the last crew."""
     many = len(walk.sizes)
     floor = 0
-    costs = {0: {crew: 1 << crew for crew in range(many) if walk.sizes[crew] <= walk.most}}
+    costs = {0: {crew: 1 << crew for crew in range(many) if walk.sizes[crew] <= walk.most[-1]}}
     moments = [(floor, costs)]
     for moment in range(walk.ticks):
         above = _costs_behind(walk, moment, costs)
