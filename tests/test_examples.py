@@ -58,6 +58,20 @@ EXAMPLES = r'''
 [None, False, True, (0, 1), None, 2, None, 1]
 >>> yard.tick(())
 raises Dead(given=())
+
+>>> from tickshares.console import Console
+>>> console = Console()
+>>> [console.run("put x\nhands 1\nwork ann 2/3"), console.run("tables x"), console.run("table x nearest"), console.run("promise fits x"), console.run("total x")]
+['ok', '3', 'ann ann -', 'ok', '2/3']
+>>> console.run("work x bob 1/2")
+raises Broken(index=0, shown=(7, 6))
+
+>>> from tickshares.certificates import certify, certify_plan, certify_rule, certify_share
+>>> from tickshares.checker import accepts
+>>> [certify(three.with_hands(1))[0][0], certify_rule(Lot("hands 1\nwork ann 2/3\nwork bob 1/2"), "nearest")[0][2:], certify_plan(even, (0, 1))[0][0], certify_share((1, 0, 1))[0][2:]]
+['over', ('nearest', (), 6, 'bob', 3), 'no plan', (1, 2)]
+>>> [accepts(("no plan", str(even), (0, 1)), (((0, 0),), ((0, 0),), ())), accepts(("no plan", str(even), (1, 1)), (((0, 0),), ((0, 0),), ())), accepts(("fits", str(even)), ((0,), (1,))), accepts(("share", (1, 0, 1), 1, 3), ())]
+[True, False, True, False]
 '''
 
 
@@ -91,7 +105,7 @@ class ExamplesTest(unittest.TestCase):
         self.assertEqual(runner.tries, many)
 
     def test_the_document(self):
-        self.hold(EXAMPLES, 29)
+        self.hold(EXAMPLES, 37)
 
     def test_the_readme(self):
-        self.hold(README.read_text(), 32)
+        self.hold(README.read_text(), 52)

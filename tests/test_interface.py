@@ -51,6 +51,14 @@ FUNCTIONS = {
         "shares_to": ("log", "number"),
     },
     "forms": {"fitting": ("forms", "number")},
+    "checker": {"accepts": ("claim", "certificate")},
+    "certificates": {
+        "certify": ("lot",),
+        "certify_rule": ("lot", "rule"),
+        "certify_worst": ("lot", "rule"),
+        "certify_plan": ("lot", "counts"),
+        "certify_share": ("log",),
+    },
 }
 
 METHODS = {
@@ -75,11 +83,28 @@ METHODS = {
             "tried": ("action",),
         },
     },
+    "desks": {
+        "Desk": {
+            "__init__": (),
+            "remove": ("name",),
+            "promise": ("promise",),
+            "lift": ("index",),
+            "undo": (),
+            "trial": (),
+            "tried": ("action",),
+        },
+    },
+    "console": {"Console": {"__init__": (), "run": ("command",)}},
 }
+
+# Methods that are called by signs; what their parameters are called is free.
+SIGNS = {"desks": {"Desk": ("__setitem__", "__getitem__", "__contains__", "__len__", "__bool__")}}
 
 PROPERTIES = {
     "lots": {"Lot": ("text", "hands", "names", "shares", "total", "span")},
     "yards": {"Yard": ("moment", "standing", "changes")},
+    "desks": {"Desk": ("titles", "promises", "changes")},
+    "console": {"Console": ("desk",)},
 }
 
 
@@ -117,6 +142,12 @@ class InterfaceTest(unittest.TestCase):
                 for method, wanted in methods.items():
                     self.assertIn(method, defined(here[name].body, ast.FunctionDef))
                     self.assertEqual(parameters(vars(told)[method])[1:], wanted)
+
+    def test_signs(self):
+        for module, classes in SIGNS.items():
+            here = defined(self.rows(module), ast.ClassDef)
+            for name, methods in classes.items():
+                self.assertLessEqual(set(methods), set(defined(here[name].body, ast.FunctionDef)))
 
     def test_properties(self):
         for module, classes in PROPERTIES.items():

@@ -231,6 +231,35 @@ def is_exit_row(row):
     return isinstance(row, ast.Pass)
 
 
+def sign_faults(tree):
+    """What is wrong with methods that are called by signs, and beside them (L5, L17, L25)."""
+    faults = []
+    for node in ast.walk(tree):
+        if isinstance(node, ast.ClassDef):
+            methods = {row.name: row for row in node.body if isinstance(row, ast.FunctionDef)}
+            if "__getitem__" in methods and "__iter__" not in methods:
+                faults.append(f"{node.name} has items and says nothing of iterating")
+            for name in ("__getitem__", "__contains__", "__len__", "__bool__", "__eq__", "__str__", "__repr__"):
+                if name in methods and changes_something(methods[name]):
+                    faults.append(f"{node.name}.{name} changes something")
+        elif isinstance(node, ast.Call) and isinstance(node.func, ast.Name) and node.func.id == "sorted":
+            if isinstance(node.args[0], ast.GeneratorExp):
+                faults.append(f"line {node.lineno}: sorted of a generator")
+        elif isinstance(node, ast.Call) and isinstance(node.func, ast.Name) and node.func.id == "reversed":
+            faults.append(f"line {node.lineno}: reversed")
+        elif isinstance(node, ast.Call) and isinstance(node.func, ast.Attribute) and node.func.attr in ("sort", *DUNDERS):
+            faults.append(f"line {node.lineno}: {node.func.attr}")
+    return faults
+
+
+def changes_something(method):
+    """Whether the method plainly stores anything but in local names, or calls what modifies."""
+    stored = [node for node in ast.walk(method) if isinstance(node, (ast.Attribute, ast.Subscript)) and not isinstance(node.ctx, ast.Load)]
+    called = [node.func.attr for node in ast.walk(method) if isinstance(node, ast.Call) and isinstance(node.func, ast.Attribute)]
+    modifying = {"append", "clear", "extend", "insert", "pop", "remove", "reverse", "setdefault", "update", "go_on", "go_back"}
+    return bool(stored) or bool(modifying & set(called))
+
+
 def imported(path):
     """The files of the package from which a file imports."""
     nodes = [node for node in ast.walk(ast.parse(path.read_text())) if isinstance(node, ast.ImportFrom)]
@@ -252,6 +281,7 @@ class LanguageTest(unittest.TestCase):
                 tree = ast.parse(text)
                 faults = text_faults(text) + module_faults(tree) + node_faults(tree, own)
                 faults += attribute_faults(tree, properties) + handler_faults(tree, own_errors()) + exit_faults(tree)
+                faults += sign_faults(tree)
                 self.assertEqual(faults, [])
 
     def test_properties_have_names_of_their_own(self):
@@ -284,6 +314,13 @@ class LanguageTest(unittest.TestCase):
                      head + "return True", head + "self.a += 1", "def __exit__(self, a, b, c):\n    pass"):
             self.assertNotEqual(exit_faults(ast.parse(text)), [], text)
         self.assertEqual(exit_faults(ast.parse(head + "if kind is not None:\n        self.a.b = self.c.d")), [])
+
+    def test_faults_of_signs_are_seen(self):
+        head = "class A:\n    def "
+        for text in (head + "__getitem__(self, at):\n        return 1", head + "__len__(self):\n        self.a = 1",
+                     head + "__contains__(self, x):\n        self.a.append(x)", head + "__bool__(self):\n        self.a[0] += 1",
+                     "def f(xs):\n    return sorted(x for x in xs)", "def f(xs):\n    xs.sort()", "def f(a):\n    return a.__len__()"):
+            self.assertNotEqual(sign_faults(ast.parse(text)), [], text)
 
     def test_faults_are_seen(self):
         for text in ("a = 1.5", "def f():\n    return 1 / 2", "import sys", "from os import path", "from . import lots",

@@ -4,6 +4,11 @@ import unittest
 from time import perf_counter
 
 from tests.slow import is_plan_by_words, lot_of, play_by_words, starts_of, with_whole
+from tickshares.certificates import certify, certify_plan, certify_rule, certify_share, certify_worst
+from tickshares.checker import accepts
+from tickshares.console import Console
+from tickshares.desks import Desk
+from tickshares.errors import Broken
 from tickshares.forms import fitting
 from tickshares.lates import run, worst
 from tickshares.plans import least_more, longest, plan
@@ -108,3 +113,43 @@ class TimeTest(unittest.TestCase):
                 names = tuple([lot.names[at] for at in crew])
                 if self.timed(yard.lets, names):
                     self.timed(yard.tick, names)
+
+    def test_desks(self):
+        lot, other = GREATEST[3], GREATEST[3].put("a", (1, 2))
+        desk = Desk()
+        self.timed(desk.__setitem__, "x", lot)
+        for promise in (("fits", "x"), ("rule", "x", "keen"), ("tables", "x", 10 ** 60), ("starts", "x", 1000)):
+            self.timed(desk.promise, promise)
+        self.assertRaises(Broken, self.timed, desk.promise, ("starts", "x", 10))
+        self.timed(desk.__setitem__, "x", other)
+        self.assertEqual((desk["x"], len(desk.promises), desk.changes), (other, 4, 6))
+
+    def test_console(self):
+        console = Console()
+        for command in ("put x\n" + str(GREATEST[3]), "total x", "tables x", "starts x", "missed x keen", "table x behind",
+                        "promise tables x 10", "promise starts x 2000", "work x f 1/2", "undo", "promises"):
+            self.timed(console.run, command)
+
+    def test_certificates_and_the_checker(self):
+        told = [self.timed(certify, lot) for lot in (*GREATEST, *OTHERS)]
+        told += [self.timed(certify_rule, lot, rule) for lot in (GREATEST[2], GREATEST[3], OTHERS[0]) for rule in RULES]
+        for lot in (GREATEST[0], GREATEST[3], lot_of(1, *[(15, 16)] * 6), lot_of(1, *[(1, 16)] * 6), lot_of(1, *[(7, 15)] * 3, *[(8, 15)] * 3)):
+            for counts in ((6,) * 60, (3,) * 60, (2,) * 60, (*(6,) * 40, *(1,) * 20), (*(6,) * 40, *(2,) * 20), (*(4, 5, 6) * 10, *(3,) * 30)):
+                told.append(self.timed(certify_plan, lot, counts))
+        told.append(self.timed(certify_worst, lot_of(2, (3, 4), (4, 5), (5, 6), (1, 6)), "keen"))
+        told += [self.timed(certify_share, log) for log in ((0,) * 200, (1,) * 200, (0, 1) * 100)]
+        for pair in told:
+            if pair is not None:
+                self.assertIs(self.timed(accepts, *pair), True)
+
+    def test_the_longest_story_for_the_checker(self):
+        lot = lot_of(1, (7, 16), (9, 16), (8, 15), (7, 15), (4, 9), (5, 9))
+        lates = sorted([(name, turn, 1 + turn % 3) for name in lot.names for turn in range(1, 1000, 29)])
+        lates = tuple(lates[:99] + lates[-101:])
+        late = tuple([(name, 1, 1990) for name in lot.names])
+        for rule in RULES:
+            for more in (lates, late):
+                lost = self.timed(run, lot, rule, more, 2000)[1]
+                self.assertIs(self.timed(accepts, ("misses", str(lot), rule, more, *lost), ()), True)
+            claim = ("misses", str(lot.with_hands(4)), rule, lates, 2000, "a", 9)
+            self.assertIs(self.timed(accepts, claim, ()), False)

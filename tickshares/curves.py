@@ -33,8 +33,8 @@ def flips(curve):
     steps = _steps_of(curve)
     # Between two neighbours of these the curve only grows or only falls, so that there is one such n at most.
     ends = [0, *flips(steps)]
-    # All zeros of a curve lie below the greatest of its coefficients and 1 more.
-    ends.append(max(ends[-1], max([abs(coefficient) for coefficient in curve]) + 2))
+    # All zeros of a curve lie below the greatest of its coefficients and 1 more: behind that there are no flips.
+    ends.append(max(ends[-1], max([abs(coefficient) for coefficient in curve]) + 1))
     told = []
     for low, high in zip(ends, ends[1:]):
         if _is_below(curve, low) != _is_below(curve, high):

@@ -14,17 +14,13 @@ def fitting(forms, number):
     check_forms(forms)
     check_number(number, 1, MOST_HANDS)
     curves = _curves_of(forms, number)
-    # From one of these to the next nothing changes; behind the last one nothing ever does.
+    # From one of these to the next nothing changes, and behind the last one nothing ever does. Where a curve flips, it
+    # is below 0 on one of the two sides, so that neighbouring stretches never touch.
     firsts = sorted(set([0, *[flip for curve in curves for flip in flips(curve)]]))
     stretches = []
     for first, after in zip(firsts, [*firsts[1:], None]):
-        if any([value_at(curve, first) < 0 for curve in curves]):
-            continue
-        last = None if after is None else after - 1
-        # Some curves may change where others forbid nothing, so that two neighbours can be one stretch.
-        if stretches and stretches[-1][1] == first - 1:
-            first = stretches.pop()[0]
-        stretches.append((first, last))
+        if all([value_at(curve, first) >= 0 for curve in curves]):
+            stretches.append((first, None if after is None else after - 1))
     return tuple(stretches)
 
 

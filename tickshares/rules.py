@@ -35,10 +35,15 @@ def missed(lot, rule):
     return lost
 
 
+def is_rule(value):
+    """Whether the value is a rule."""
+    # What is no string is not held against the rules: it might say that it equals them.
+    return isinstance(value, str) and value in RULES
+
+
 def check_rule(rule):
     """Raises InvalidRule for what is no rule."""
-    # What is no string is not held against the rules: it might say that it equals them.
-    if not isinstance(rule, str) or rule not in RULES:
+    if not is_rule(rule):
         raise InvalidRule(rule)
 
 
