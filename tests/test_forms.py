@@ -146,9 +146,12 @@ class FittingTest(unittest.TestCase):
         self.assertEqual(told, ((MOST - 1, None),))
         told = self.held((((MOST, 1), (MOST - 1, MOST)),), 1, chance)
         self.assertEqual(told, ((0, MOST - 1),))
-        # One half of a hand each, and a little that fades as 1 / n: they fit from where the little is small enough.
-        told = self.held((((MOST, 0), (2 * MOST // 2, MOST)), ((0, 1), (1, 0 + 1))), 1, chance)
-        self.assertEqual(fitting((((1, 0), (2, 1)), ((1, 0), (2, 1))), 1), ((1, None),))
+        # The one comes near 1 / 2 from below, the other one from above: they fit from n = 1 on.
+        told = self.held((((1, 0), (2, MOST)), ((1, 1), (2, 1))), 1, chance)
+        self.assertEqual(told, ((1, None),))
+        # 1 / (n + 1) beside 1 - 1 / 10 ** 9: there is room for it when n + 1 is 10 ** 9.
+        told = self.held((((0, 1), (1, 1)), ((0, MOST - 1), (0, MOST))), 1, chance)
+        self.assertEqual(told, ((MOST - 1, None),))
 
     def test_kinds(self):
         told = fitting((((1, 0), (0, 4)), ((1, 1), (1, 3))), 2)
